@@ -1,0 +1,1 @@
+"""Houses that meet in pairs, and books that count each deed once."""

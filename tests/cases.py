@@ -1,0 +1,106 @@
+"""Values, machines and checks that several tests use."""
+
+import copy
+import itertools
+import random
+
+from houseslessties.machines import Machine
+
+
+def nested(depth, value=()):
+    """A value within so many lists and tuples, by turns."""
+    for level in range(depth):
+        value = [value] if level % 2 else (value,)
+    return value
+
+
+def any_values():
+    """Values of all kinds, none of them a number below 13, tables, a row, a text or a paper."""
+    return [
+        True, False, None, -1, -2, 13, 10 ** 6, 10 ** 5000, -10 ** 5000,
+        "", "0", "1", "untold", "states 1", "abc",
+        Machine([(0,)]), Machine([(1, 0), (0, 0)]),
+        [True], (False,), [None], (None, None), ["0"], ("01",), [[5]], ((2,), (1,)), [(), []],
+        [-1], (0, -1), [0, True], (0, 0, None), [Machine([(0,)])], (Machine([(0,)]), 0),
+        nested(39), nested(40, 0), [nested(38), nested(38, None)],
+    ]
+
+
+def no_numbers():
+    """Any values that are no numbers below 13, sequences among them."""
+    return any_values() + [[], (), [0], (0,), [0, 0]]
+
+
+def machines_of(states, deeds):
+    """All machines of so many states and deeds."""
+    tables = list(itertools.product(range(states), repeat=states))
+    return [Machine(chosen) for chosen in itertools.product(tables, repeat=deeds)]
+
+
+def some_machines(many, seed=1):
+    """So many machines of up to 5 states and 3 deeds, always the same ones."""
+    rolls = random.Random(seed)
+    found = []
+    for _ in range(many):
+        states = rolls.randrange(1, 6)
+        deeds = rolls.randrange(1, 4)
+        found.append(Machine([[rolls.randrange(states) for _ in range(states)] for _ in range(deeds)]))
+    return found
+
+
+def all_rows(deeds, most):
+    """All rows of at most so many deeds, the first ones ahead."""
+    return [row for length in range(most + 1) for row in itertools.product(range(deeds), repeat=length)]
+
+
+def done(machine, state, row):
+    """Where a row leads a state, told by the tables alone."""
+    for deed in row:
+        state = machine.tables[deed][state]
+    return state
+
+
+def reached(machine, *states):
+    """The tuples of states to which rows lead these states together."""
+    known = {states}
+    fresh = [states]
+    while fresh:
+        ends = fresh.pop()
+        for table in machine.tables:
+            behind = tuple(table[state] for state in ends)
+            if behind not in known:
+                known.add(behind)
+                fresh.append(behind)
+    return known
+
+
+def is_tupled(value):
+    """Whether no list stands in a value."""
+    return not isinstance(value, list) and (not isinstance(value, tuple) or all(map(is_tupled, value)))
+
+
+def raised(test, error, function, *args, **names):
+    """The attributes of the error that a call raises; no argument is changed by it."""
+    before = copy.deepcopy(args)
+    with test.assertRaises(error) as caught:
+        function(*args, **names)
+    test.assertIs(type(caught.exception), error)
+    test.assertEqual(repr_of(args), repr_of(before))
+    return vars(caught.exception)
+
+
+def repr_of(value):
+    """A text that tells lists from tuples and bools from integers, also of package objects."""
+    if isinstance(value, (list, tuple)):
+        return f"{type(value).__name__}({', '.join(map(repr_of, value))})"
+    if hasattr(value, "__dict__"):
+        return f"{type(value).__name__}:{repr_of(sorted(vars(value).items()))}"
+    if isinstance(value, int) and not isinstance(value, bool):
+        return hex(value)
+    return repr(value)
+
+
+MOST_MACHINE = Machine([[(state * (deed + 1) + deed) % 12 for state in range(12)] for deed in range(8)])
+MOST_MIXED = Machine([[(state * (deed + 2) + 2 * deed + 1) % 12 for state in range(12)] for deed in range(8)])
+WORN = Machine([(1, 2, 2, 3), (0, 0, 2, 3)])
+SWAP = Machine([(1, 0, 2), (0, 2, 1)])

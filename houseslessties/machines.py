@@ -86,10 +86,11 @@ def first_rows(machine, states):
     queue = [states]
     at = 0
     while at < len(queue):
+        here = queue[at]
         for deed, table in enumerate(machine.tables):
-            ends = tuple([table[state] for state in queue[at]])
+            ends = tuple([table[state] for state in here])
             if ends not in rows:
-                rows[ends] = rows[queue[at]] + (deed,)
+                rows[ends] = rows[here] + (deed,)
                 queue.append(ends)
         at += 1
     return rows

@@ -5,6 +5,7 @@ import itertools
 import random
 
 from houseslessties.machines import Machine
+from houseslessties.webs import Web
 
 
 def nested(depth, value=()):
@@ -19,7 +20,7 @@ def any_values():
     return [
         True, False, None, -1, -2, 13, 10 ** 6, 10 ** 5000, -10 ** 5000,
         "", "0", "1", "untold", "states 1", "abc",
-        Machine([(0,)]), Machine([(1, 0), (0, 0)]),
+        Machine([(0,)]), Machine([(1, 0), (0, 0)]), Web(1, []), Web(3, [(0, 1), (2, 0)]),
         [True], (False,), [None], (None, None), ["0"], ("01",), [[5]], ((2,), (1,)), [(), []],
         [-1], (0, -1), [0, True], (0, 0, None), [Machine([(0,)])], (Machine([(0,)]), 0),
         nested(39), nested(40, 0), [nested(38), nested(38, None)],
@@ -45,6 +46,17 @@ def some_machines(many, seed=1):
         states = rolls.randrange(1, 6)
         deeds = rolls.randrange(1, 4)
         found.append(Machine([[rolls.randrange(states) for _ in range(states)] for _ in range(deeds)]))
+    return found
+
+
+def some_webs(many, seed=1):
+    """So many webs of up to 6 houses and 8 ties, always the same ones."""
+    rolls = random.Random(seed)
+    found = []
+    for _ in range(many):
+        houses = rolls.randrange(1, 7)
+        ties = rolls.randrange(9) if houses > 1 else 0
+        found.append(Web(houses, [rolls.sample(range(houses), 2) for _ in range(ties)]))
     return found
 
 
@@ -103,4 +115,7 @@ def repr_of(value):
 MOST_MACHINE = Machine([[(state * (deed + 1) + deed) % 12 for state in range(12)] for deed in range(8)])
 MOST_MIXED = Machine([[(state * (deed + 2) + 2 * deed + 1) % 12 for state in range(12)] for deed in range(8)])
 WORN = Machine([(1, 2, 2, 3), (0, 0, 2, 3)])
+TURN = Machine([(1, 2, 3, 0), (3, 2, 1, 0)])
+RING = Machine([(1, 2, 3, 0), (2, 3, 0, 1)])
+STEPS = Machine([(1, 2, 2), (0, 0, 0)])
 SWAP = Machine([(1, 0, 2), (0, 2, 1)])

@@ -1,0 +1,80 @@
+"""[1], [2], [3]: what is promised of each function alike."""
+
+import copy
+import inspect
+import unittest
+
+from houseslessties.joins import is_telling, join, joined_all, telling_holds, telling_paper, untold_rows
+from houseslessties.machines import Machine, check_row, led, need_deed, need_state, orbit
+from houseslessties.orbits import group_paper, inverse_of, is_exchanging, orbit_table, turned_join
+from houseslessties.rows import commuting_paper, need_commuting, power_of
+from houseslessties.texts import machine_text, read_machine, read_row, read_web, row_text, web_text
+from houseslessties.webs import (
+    Web, is_forest, need_house, need_tie, part_of, parts_of, ring_paper, rings_of,
+)
+from tests.cases import MOST_MACHINE, MOST_MIXED, RING, STEPS, TURN, is_tupled, repr_of
+
+WEB = Web(12, [(house, (house + 1) % 12) for house in range(12)] + [(house, house + 4) for house in range(8)])
+PAPER = ["untold", 0, 0, [], [1]]
+CALLS = (
+    (Machine, [[1, 0], [0, 0]]), (need_state, MOST_MACHINE, 11), (need_deed, MOST_MACHINE, 7),
+    (check_row, MOST_MACHINE, [7] * 10000), (led, MOST_MACHINE, 11, [7, 1] * 200), (orbit, MOST_MIXED, 3),
+    (commuting_paper, MOST_MIXED, 3), (commuting_paper, MOST_MACHINE, 3), (need_commuting, MOST_MACHINE, 3),
+    (power_of, MOST_MIXED, 3, [7, 2] * 200),
+    (Web, 3, [[0, 1], [2, 1]]), (need_house, WEB, 11), (need_tie, WEB, 19), (part_of, WEB, 11), (parts_of, WEB),
+    (rings_of, WEB, list(range(12))), (is_forest, WEB), (ring_paper, WEB), (ring_paper, Web(3, [(0, 1), (1, 2)])),
+    (machine_text, MOST_MIXED), (read_machine, machine_text(MOST_MIXED)), (row_text, MOST_MACHINE, [7, 1] * 200),
+    (read_row, MOST_MACHINE, "7 1 0"), (read_row, MOST_MACHINE, "-"), (web_text, WEB), (read_web, web_text(WEB)),
+    (join, RING, 3, 1, 2), (untold_rows, TURN, 0, 1, 3), (untold_rows, MOST_MIXED, 0, 3, 5), (untold_rows, RING, 3, 1, 2),
+    (telling_paper, MOST_MIXED, 0), (telling_paper, MOST_MACHINE, 0), (is_telling, MOST_MIXED, 0),
+    (telling_holds, STEPS, 0, PAPER), (telling_holds, MOST_MIXED, 0, PAPER), (joined_all, MOST_MACHINE, 0, [11, 7] * 200),
+    (orbit_table, MOST_MACHINE, 0), (is_exchanging, MOST_MACHINE, 0), (group_paper, MOST_MACHINE, 0),
+    (group_paper, RING, 2), (inverse_of, RING, 2, 3), (turned_join, RING, 0, 3, 1, 2),
+)
+
+
+def spoil(value):
+    """Changes each list in a value."""
+    if isinstance(value, (list, tuple)):
+        for item in value:
+            spoil(item)
+    if isinstance(value, list):
+        value.append("spoiled")
+        value.reverse()
+
+
+class BasicsTest(unittest.TestCase):
+    def test_results(self):
+        for function, *args in CALLS:
+            passed = copy.deepcopy(args)
+            result = function(*passed)
+            told = repr_of(result)
+            self.assertEqual(repr_of(passed), repr_of(args), function)
+            self.assertTrue(is_tupled(result), function)
+            for attribute in getattr(result, "__dict__", {}).values():
+                self.assertTrue(is_tupled(attribute), function)
+            self.assertEqual(repr_of(function(*copy.deepcopy(args))), told, function)
+            spoil([item for item in passed if isinstance(item, list)])
+            self.assertEqual(repr_of(result), told, function)
+
+    def test_arguments_by_names(self):
+        for function, *args in CALLS:
+            names = list(inspect.signature(function).parameters)
+            self.assertEqual(len(names), len(args), function)
+            by_names = function(**dict(reversed(list(zip(names, copy.deepcopy(args))))))
+            self.assertEqual(repr_of(by_names), repr_of(function(*copy.deepcopy(args))), function)
+
+    def test_lists_and_tuples_alike(self):
+        for function, *args in CALLS:
+            tupled = [tuple_of(item) for item in args]
+            self.assertEqual(repr_of(function(*tupled)), repr_of(function(*args)), function)
+
+    def test_whether_is_true_or_false(self):
+        for function, args in ((is_forest, [WEB]), (is_telling, [TURN, 0]), (is_telling, [RING, 0]),
+                               (is_exchanging, [RING, 0]), (telling_holds, [STEPS, 0, PAPER]),
+                               (telling_holds, [STEPS, 0, [1] * 5]), (telling_holds, [STEPS, 0, None])):
+            self.assertIs(type(function(*args)), bool)
+
+
+def tuple_of(value):
+    return tuple(tuple_of(item) for item in value) if isinstance(value, list) else value

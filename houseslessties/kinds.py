@@ -1,9 +1,14 @@
-"""Which values are integers, numbers below a limit, and sequences."""
+"""Which values are integers, numbers and sequences; tuples with another item."""
 
 
 def is_whole(value):
     """Whether a value is an integer; a bool is none."""
     return isinstance(value, int) and not isinstance(value, bool)
+
+
+def is_number(value):
+    """Whether a value is a number."""
+    return is_whole(value) and value >= 0
 
 
 def is_below(value, limit):
@@ -22,3 +27,8 @@ def first_not_below(items, limit):
         if not is_below(item, limit):
             return at
     return None
+
+
+def replaced(items, at, item):
+    """A tuple with another item at one place."""
+    return items[:at] + (item,) + items[at + 1:]

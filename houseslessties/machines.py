@@ -1,6 +1,6 @@
 """Machines: tables that tell where each deed leads each state, and rows of deeds."""
 
-from houseslessties.errors import BadMachine, BadRow, NoDeed, NoState
+from houseslessties.errors import BadMachine, BadRow, NoDeed, NoState, TooGreat
 from houseslessties.kinds import first_not_below, is_below, is_sequence
 
 MOST_TABLES = 8
@@ -80,18 +80,20 @@ def led(machine, state, row):
     return moved(machine, state, check_row(machine, row))
 
 
-def first_rows(machine, states):
-    """By where rows lead some states (a tuple) the first such row, the first rows ahead."""
+def first_rows(machine, states, out=None, most=None):
+    """By where rows of at most `out` deeds lead some states (a tuple) the first such row, the first rows ahead."""
     rows = {states: ()}
     queue = [states]
     at = 0
-    while at < len(queue):
+    while at < len(queue) and (out is None or len(rows[queue[at]]) < out):
         here = queue[at]
         for deed, table in enumerate(machine.tables):
             ends = tuple([table[state] for state in here])
             if ends not in rows:
                 rows[ends] = rows[here] + (deed,)
                 queue.append(ends)
+        if most is not None and len(queue) > most:
+            raise TooGreat(most)
         at += 1
     return rows
 

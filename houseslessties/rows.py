@@ -32,3 +32,11 @@ def power_of(machine, state, row):
         times[state] = len(times)
         state = moved(machine, state, deeds)
     return times[state], len(times) - times[state]
+
+
+def doubled_from(machine, state):
+    """The least deed that leads the state elsewhere when done twice than when done once; None if there is none."""
+    for deed in range(machine.deeds):
+        if moved(machine, state, (deed, deed)) != moved(machine, state, (deed,)):
+            return deed
+    return None

@@ -88,12 +88,16 @@ def is_part(web, value):
     return tuple(value) == part_of(web, value[0])
 
 
+def ties_in(web, part):
+    """The ties of a part, ascending."""
+    return [tie for tie, pair in enumerate(web.ties) if pair[0] in part]
+
+
 def rings_of(web, part):
     """How many ties of a part can go so that it stays a part."""
     if not is_part(web, part):
         raise Refused(part)
-    ties = [pair for pair in web.ties if pair[0] in part]
-    return len(ties) - len(part) + 1
+    return len(ties_in(web, part)) - len(part) + 1
 
 
 def is_forest(web):
@@ -115,3 +119,8 @@ def ring_paper(web):
     rings = [ring_over(web, tie) for tie in range(len(web.ties))]
     found = [ring for ring in rings if ring is not None]
     return min(found, key=len, default=None)
+
+
+def outward(web, house):
+    """(tie, farther house) for each house that is joined with a house, the nearest ones ahead."""
+    return [(way[-1], other) for other, way in first_ways(web, house, None).items() if way]

@@ -60,6 +60,44 @@ def some_webs(many, seed=1):
     return found
 
 
+def some_steps(web, deeds, many, rolls, meetings=0.6):
+    """So many steps of a web with so many deeds, rolled."""
+    steps = []
+    for _ in range(many):
+        if web.ties and rolls.random() < meetings:
+            steps.append(("meet", rolls.randrange(len(web.ties))))
+        else:
+            steps.append(("do", rolls.randrange(web.houses), rolls.randrange(deeds)))
+    return tuple(steps)
+
+
+def all_steps(web, deeds, many):
+    """All steps of just so many in a web with so many deeds."""
+    each = [("do", house, deed) for house in range(web.houses) for deed in range(deeds)]
+    each += [("meet", tie) for tie in range(len(web.ties))]
+    return itertools.product(each, repeat=many)
+
+
+def joined_to(web, house):
+    """The houses that are joined with a house, itself among them."""
+    found = {house}
+    for _ in web.ties:
+        found |= {other for pair in web.ties if found & set(pair) for other in pair}
+    return found
+
+
+def bent_steps(steps, at):
+    """Values that are like these steps, but no steps at one place."""
+    wrong = [
+        (), ("do",), ("meet",), ("do", 0), ("meet", 0, 0), ("do", 0, 0, 0), ("Do", 0, 0), ("mee", 0), ("meeting", 0),
+        ("do", True, 0), ("do", 0, False), ("meet", True), ("meet", False), ("do", 12, 0), ("do", 0, 8), ("meet", 20),
+        ("do", -1, 0), ("do", 0, -1), ("meet", -1), ("do", "0", 0), ("do", 0, None), ("meet", None), ("meet", (0,)),
+        ("do", (0, 0)), (("do", 0, 0),), ["meet", [0]], (0, 0, 0), (None, 0), "do", "meet", ("do", 10 ** 5000, 0),
+        ([], 0, 0), (Machine([(0,)]), 0), (0, "meet"),
+    ]
+    return [tuple(steps[:at]) + (value,) + tuple(steps[at + 1:]) for value in wrong + any_values()]
+
+
 def all_rows(deeds, most):
     """All rows of at most so many deeds, the first ones ahead."""
     return [row for length in range(most + 1) for row in itertools.product(range(deeds), repeat=length)]
@@ -112,6 +150,17 @@ def repr_of(value):
     return repr(value)
 
 
+MOST_WEB = Web(12, [(house, (house + 1) % 12) for house in range(12)] + [(house, house + 4) for house in range(8)])
+FIVE = Web(5, [(0, 1), (1, 2), (2, 0), (3, 4)])
+THREE = Web(3, [(0, 1), (1, 2), (2, 0)])
+TWICE = Web(2, [(0, 1), (1, 0)])
+LINE = Web(3, [(0, 1), (1, 2)])
+WEEK = Machine([(1, 2, 3, 4, 5, 6, 0), (3, 4, 5, 6, 0, 1, 2)])
+CLOCK = Machine([[(state + deed + 1) % 12 for state in range(12)] for deed in range(8)])
+# Two marks that are set each for itself, a count to two that stays there, and a deed that does nothing.
+FLAGS = Machine([(1, 1, 3, 3), (2, 3, 2, 3)])
+FEW = Machine([(1, 2, 2)])
+MIXED = Machine([(1, 0, 3, 2, 5, 4), (2, 3, 4, 5, 4, 5), (0, 1, 2, 3, 4, 5)])
 MOST_MACHINE = Machine([[(state * (deed + 1) + deed) % 12 for state in range(12)] for deed in range(8)])
 MOST_MIXED = Machine([[(state * (deed + 2) + 2 * deed + 1) % 12 for state in range(12)] for deed in range(8)])
 WORN = Machine([(1, 2, 2, 3), (0, 0, 2, 3)])

@@ -4,17 +4,28 @@ import copy
 import inspect
 import unittest
 
+from houseslessties.books import (
+    act_deeds, counts_after, first_twice, harmless_period, heard_after, led_counts, led_times, plain_state, run_harm,
+    safe_ties, twice_run, wrong_run,
+)
 from houseslessties.joins import is_telling, join, joined_all, telling_holds, telling_paper, untold_rows
 from houseslessties.machines import Machine, check_row, led, need_deed, need_state, orbit
+from houseslessties.nets import Net, check_steps, standing_after, truth_of
 from houseslessties.orbits import group_paper, inverse_of, is_exchanging, orbit_table, turned_join
 from houseslessties.rows import commuting_paper, need_commuting, power_of
 from houseslessties.texts import machine_text, read_machine, read_row, read_web, row_text, web_text
+from houseslessties.travellers import (
+    Traveller, all_marks, brought_behind, come_home, enough_home, home_states, marks_paper, needed_marks,
+)
 from houseslessties.webs import (
     Web, is_forest, need_house, need_tie, part_of, parts_of, ring_paper, rings_of,
 )
-from tests.cases import MOST_MACHINE, MOST_MIXED, RING, STEPS, TURN, is_tupled, repr_of
+from tests.cases import (
+    CLOCK, MOST_MACHINE, MOST_MIXED, MOST_WEB as WEB, RING, STEPS, SWAP, THREE, TURN, WEEK, is_tupled, repr_of,
+)
 
-WEB = Web(12, [(house, (house + 1) % 12) for house in range(12)] + [(house, house + 4) for house in range(8)])
+RUN = [["do", 0, 0], ["meet", 0], ["do", 2, 1], ["meet", 1], ["meet", 2]]
+LONG = [["do", at % 12, at % 8] if at % 3 else ["meet", at % 20] for at in range(400)]
 PAPER = ["untold", 0, 0, [], [1]]
 CALLS = (
     (Machine, [[1, 0], [0, 0]]), (need_state, MOST_MACHINE, 11), (need_deed, MOST_MACHINE, 7),
@@ -30,6 +41,20 @@ CALLS = (
     (telling_holds, STEPS, 0, PAPER), (telling_holds, MOST_MIXED, 0, PAPER), (joined_all, MOST_MACHINE, 0, [11, 7] * 200),
     (orbit_table, MOST_MACHINE, 0), (is_exchanging, MOST_MACHINE, 0), (group_paper, MOST_MACHINE, 0),
     (group_paper, RING, 2), (inverse_of, RING, 2, 3), (turned_join, RING, 0, 3, 1, 2),
+    (home_states, SWAP, 0), (all_marks, SWAP, 0), (needed_marks, SWAP, 0, 2), (marks_paper, SWAP, 0),
+    (enough_home, SWAP, 0), (Traveller, SWAP, 0), (come_home, SWAP, 0, 2, [1, 1]),
+    (brought_behind, SWAP, 0, [1, 1], [0, 1]),
+    (check_steps, WEEK, THREE, RUN), (check_steps, CLOCK, WEB, LONG), (Net, WEEK, THREE, 3),
+    (standing_after, WEEK, THREE, 0, RUN), (standing_after, CLOCK, WEB, 3, LONG), (truth_of, CLOCK, WEB, 3, LONG, 7),
+    (act_deeds, WEB, LONG), (counts_after, WEB, LONG), (heard_after, WEB, LONG), (led_times, CLOCK, 0, [7, 1], 10 ** 900),
+    (led_counts, WEEK, 0, [0, 1], [10 ** 900, 3]), (plain_state, CLOCK, WEB, 3, LONG, 7), (first_twice, WEB, LONG),
+    (first_twice, THREE, RUN[:2]), (safe_ties, WEB, LONG), (twice_run, WEB), (twice_run, Web(2, [(0, 1)])),
+    (wrong_run, CLOCK, WEB, 3), (harmless_period, CLOCK, 3), (run_harm, WEB, LONG), (run_harm, THREE, RUN),
+)
+BY_NAME = (
+    (home_states, {"home": 1}), (all_marks, {"home": 1, "out": 2, "most": 6}), (marks_paper, {"home": 1, "out": 2, "most": 6}),
+    (needed_marks, {"home": 1, "out": 2, "most": 6}), (enough_home, {"most": 6}), (Traveller, {"most": 6}),
+    (come_home, {"most": 6}), (brought_behind, {"most": 6}),
 )
 
 
@@ -59,10 +84,22 @@ class BasicsTest(unittest.TestCase):
 
     def test_arguments_by_names(self):
         for function, *args in CALLS:
-            names = list(inspect.signature(function).parameters)
+            names = [one.name for one in inspect.signature(function).parameters.values() if one.kind is not one.KEYWORD_ONLY]
             self.assertEqual(len(names), len(args), function)
             by_names = function(**dict(reversed(list(zip(names, copy.deepcopy(args))))))
             self.assertEqual(repr_of(by_names), repr_of(function(*copy.deepcopy(args))), function)
+
+    def test_only_by_name(self):
+        for function, names in BY_NAME:
+            args = [args for one, *args in CALLS if one is function][0]
+            function(*args, **names)
+            with self.assertRaises(TypeError):
+                function(*args, *names.values())
+
+    def test_calls_in_between_change_nothing(self):
+        told = [repr_of(function(*args)) for function, *args in CALLS]
+        again = [repr_of(function(*args)) for function, *args in reversed(CALLS)]
+        self.assertEqual(told, again[::-1])
 
     def test_lists_and_tuples_alike(self):
         for function, *args in CALLS:

@@ -38,6 +38,8 @@ BARRED_ATTRIBUTES = set("""items keys values pop update append clear extend inse
 BARRED_NODES = (
     ast.Global, ast.AsyncFunctionDef, ast.AsyncFor, ast.AsyncWith, ast.Await, ast.Div, ast.MatMult, ast.Import,
 )
+# Where a doctest ran ahead of these tests, Python keeps its last result among the builtins under this name.
+PYTHON_NAMES = set(dir(builtins)) - {"_"}
 AT_ONCE = {"zip", "enumerate", "reversed", "range"}
 TAKERS = {"list", "tuple", "dict", "sorted", "sum", "any", "all", "enumerate", "zip", "min", "max", "bytes"}
 KEYWORDS = {"sorted": {"key", "reverse"}, "min": {"key", "default"}, "max": {"key", "default"}, "sum": {"start"},
@@ -128,16 +130,16 @@ class Look:
             for name in bound_names(node):
                 if name in imported | classes:
                     self.say("L15", node, name)
-                if name in dir(builtins) or name in BARRED_NAMES or not re.fullmatch(r"_?[A-Za-z][A-Za-z0-9_]*|_", name):
+                if name in PYTHON_NAMES or name in BARRED_NAMES or not re.fullmatch(r"_?[A-Za-z][A-Za-z0-9_]*|_", name):
                     self.say("L12 L15 L17", node, name)
             if isinstance(node, ast.Name) and isinstance(node.ctx, ast.Load):
-                if node.id in dir(builtins) and node.id not in BUILTINS or node.id == "_":
+                if node.id in PYTHON_NAMES and node.id not in BUILTINS or node.id == "_":
                     self.say("L8", node, node.id)
             if isinstance(node, (ast.FunctionDef, ast.ClassDef)):
                 method = isinstance(self.parents[node], ast.ClassDef)
                 if node.name.startswith("__") and not (method and node.name in DUNDERS):
                     self.say("L5", node, node.name)
-                if not method and (node.name in dir(builtins) or node.name in BARRED_NAMES):
+                if not method and (node.name in PYTHON_NAMES or node.name in BARRED_NAMES):
                     self.say("L15", node, node.name)
 
     def look_at_node(self, node):

@@ -34,7 +34,42 @@ INTERFACE = {
         "orbit_table": "machine state", "is_exchanging": "machine state", "group_paper": "machine state",
         "inverse_of": "machine state one", "turned_join": "machine state archive here there",
     },
+    "travellers": {
+        "home_states": "machine archive * home=None",
+        "all_marks": "machine archive * home=None out=None most=5000",
+        "needed_marks": "machine archive state * home=None out=None most=5000",
+        "marks_paper": "machine archive * home=None out=None most=5000",
+        "Traveller": "machine archive * most=5000", "come_home": "machine archive here brought * most=5000",
+        "brought_behind": "machine archive one other * most=5000", "enough_home": "machine archive * most=5000",
+    },
+    "nets": {
+        "check_steps": "machine web value", "Net": "machine web first", "standing_after": "machine web first steps",
+        "truth_of": "machine web first steps house",
+    },
+    "books": {
+        "act_deeds": "web steps", "counts_after": "web steps", "heard_after": "web steps",
+        "led_times": "machine state row times", "led_counts": "machine first deeds counts",
+        "plain_state": "machine web first steps house", "first_twice": "web steps", "safe_ties": "web steps",
+        "twice_run": "web", "wrong_run": "machine web first", "harmless_period": "machine first",
+        "run_harm": "web steps",
+    },
 }
+METHODS = {
+    ("machines", "Machine"): {"__eq__": "other"},
+    ("webs", "Web"): {"__eq__": "other"},
+    ("travellers", "Traveller"): {"do": "deed", "brought": ""},
+    ("nets", "Net"): {"do": "house deed", "meet": "tie"},
+}
+
+
+def arguments_of(thing):
+    """The arguments that a call takes, as a text."""
+    words = []
+    for one in inspect.signature(thing).parameters.values():
+        if one.kind is one.KEYWORD_ONLY and "*" not in words:
+            words.append("*")
+        words.append(one.name if one.default is one.empty else f"{one.name}={one.default}")
+    return " ".join(words)
 
 
 class InterfaceTest(unittest.TestCase):
@@ -45,10 +80,11 @@ class InterfaceTest(unittest.TestCase):
                 thing = getattr(module, name)
                 self.assertEqual(thing.__module__, module.__name__, name)
                 if arguments is not None:
-                    self.assertEqual(list(inspect.signature(thing).parameters), arguments.split(), name)
+                    self.assertEqual(arguments_of(thing), arguments, name)
 
     def test_methods_stand_in_the_classes_themselves(self):
-        for file, name in (("machines", "Machine"), ("webs", "Web")):
+        for (file, name), methods in METHODS.items():
             thing = getattr(importlib.import_module(f"houseslessties.{file}"), name)
             self.assertIn("__init__", vars(thing))
-            self.assertIn("__eq__", vars(thing))
+            for method, arguments in methods.items():
+                self.assertEqual(arguments_of(vars(thing)[method]), f"self {arguments}".strip(), (name, method))

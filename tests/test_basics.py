@@ -4,18 +4,27 @@ import copy
 import inspect
 import unittest
 
+from houseslessties.audits import audit_holds, audit_paper, audit_state
 from houseslessties.books import (
     act_deeds, counts_after, first_twice, harmless_period, heard_after, led_counts, led_times, plain_state, run_harm,
     safe_ties, twice_run, wrong_run,
 )
+from houseslessties.counters import CounterNet
 from houseslessties.joins import is_telling, join, joined_all, telling_holds, telling_paper, untold_rows
 from houseslessties.machines import Machine, check_row, led, need_deed, need_state, orbit
 from houseslessties.nets import Net, check_steps, standing_after, truth_of
 from houseslessties.orbits import group_paper, inverse_of, is_exchanging, orbit_table, turned_join
+from houseslessties.rests import (
+    are_right, best_turns, check_turns, fewest_rounds, is_rest, longest_way, rest_after, rest_values, sweep, turns_heard,
+)
 from houseslessties.rows import commuting_paper, need_commuting, power_of
 from houseslessties.texts import machine_text, read_machine, read_row, read_web, row_text, web_text
 from houseslessties.travellers import (
     Traveller, all_marks, brought_behind, come_home, enough_home, home_states, marks_paper, needed_marks,
+)
+from houseslessties.walks import (
+    careful_walk, check_walk, crossed_counts, crossings, cut_run, unread_acts, walked_counts, walked_standing,
+    walked_state,
 )
 from houseslessties.webs import (
     Web, is_forest, need_house, need_tie, part_of, parts_of, ring_paper, rings_of,
@@ -27,6 +36,11 @@ from tests.cases import (
 RUN = [["do", 0, 0], ["meet", 0], ["do", 2, 1], ["meet", 1], ["meet", 2]]
 LONG = [["do", at % 12, at % 8] if at % 3 else ["meet", at % 20] for at in range(400)]
 PAPER = ["untold", 0, 0, [], [1]]
+FOOT = [["do", 0, 0], ["read", 0], ["do", 1, 1], ["meet", 0], ["do", 0, 1], ["read", 2], ["read", 1]]
+LINE = Web(3, [[0, 1], [1, 2]])
+TREE = Web(12, [(house // 2, house) for house in range(1, 12)])
+RUNS = ["runs", [["do", 2, 0], ["meet", 2]], [["do", 2, 0], ["do", 0, 0]]]
+LATE = LONG[:388] + [["read", house] for house in range(12)]
 CALLS = (
     (Machine, [[1, 0], [0, 0]]), (need_state, MOST_MACHINE, 11), (need_deed, MOST_MACHINE, 7),
     (check_row, MOST_MACHINE, [7] * 10000), (led, MOST_MACHINE, 11, [7, 1] * 200), (orbit, MOST_MIXED, 3),
@@ -50,6 +64,19 @@ CALLS = (
     (led_counts, WEEK, 0, [0, 1], [10 ** 900, 3]), (plain_state, CLOCK, WEB, 3, LONG, 7), (first_twice, WEB, LONG),
     (first_twice, THREE, RUN[:2]), (safe_ties, WEB, LONG), (twice_run, WEB), (twice_run, Web(2, [(0, 1)])),
     (wrong_run, CLOCK, WEB, 3), (harmless_period, CLOCK, 3), (run_harm, WEB, LONG), (run_harm, THREE, RUN),
+    (audit_paper, WEEK, THREE, 0, 0, [0, 2], [1]), (audit_paper, WEEK, THREE, 0, 0, None, [1]),
+    (audit_paper, WEEK, THREE, 0, 0, [0, 1, 2], [0, 1, 2]), (audit_paper, MOST_MACHINE, WEB, 0, 0, None, None),
+    (audit_holds, WEEK, THREE, 0, 0, [0, 1, 2], [0, 1], RUNS), (audit_holds, WEEK, THREE, 0, 0, None, None, RUNS),
+    (audit_state, WEEK, THREE, 0, [5, 4, 5], [1, 4, 5], 1), (audit_state, WEEK, LINE, 0, [1, 0, 0], [0, 0], 1),
+    (check_walk, LINE, FOOT), (check_walk, WEB, LATE), (crossings, LINE, FOOT), (unread_acts, LINE, FOOT),
+    (walked_counts, LINE, FOOT), (walked_counts, WEB, LATE), (crossed_counts, LINE, FOOT), (careful_walk, LINE, FOOT),
+    (cut_run, WEB, LATE), (walked_standing, CLOCK, WEB, 3, LATE), (walked_state, WEEK, LINE, 0, FOOT),
+    (walked_state, CLOCK, WEB, 3, LATE),
+    (CounterNet, LINE, 0, [10 ** 18, 0, -2], [1, -10 ** 18]), (CounterNet, LINE, 10 ** 6, [5, 0, 2], [1, 999999]),
+    (is_rest, CounterNet(LINE, 0, [5, 0, 2], [1, -3])), (rest_values, 6, 3, 2), (rest_values, 0, 10 ** 900, 10 ** 900),
+    (are_right, 10 ** 6, 10 ** 900, 10 ** 900), (sweep, TREE, 7), (check_turns, LINE, [1, 0]), (rest_after, TREE, [*range(11)]),
+    (turns_heard, WEB, [*range(20)], 3, 9), (turns_heard, Web(2, []), [], 0, 1), (longest_way, TREE),
+    (fewest_rounds, TREE), (best_turns, TREE),
 )
 BY_NAME = (
     (home_states, {"home": 1}), (all_marks, {"home": 1, "out": 2, "most": 6}), (marks_paper, {"home": 1, "out": 2, "most": 6}),
@@ -109,7 +136,12 @@ class BasicsTest(unittest.TestCase):
     def test_whether_is_true_or_false(self):
         for function, args in ((is_forest, [WEB]), (is_telling, [TURN, 0]), (is_telling, [RING, 0]),
                                (is_exchanging, [RING, 0]), (telling_holds, [STEPS, 0, PAPER]),
-                               (telling_holds, [STEPS, 0, [1] * 5]), (telling_holds, [STEPS, 0, None])):
+                               (telling_holds, [STEPS, 0, [1] * 5]), (telling_holds, [STEPS, 0, None]),
+                               (audit_holds, [WEEK, THREE, 0, 0, None, [0, 1], RUNS]),
+                               (audit_holds, [WEEK, THREE, 0, 0, None, None, RUNS]),
+                               (audit_holds, [WEEK, THREE, 0, 0, None, None, 1]),
+                               (is_rest, [CounterNet(LINE, 0, [5, 0, 2], [1, -3])]), (are_right, [0, 0, 0]),
+                               (is_rest, [CounterNet(LINE, 0, [0] * 3, [0] * 2)]), (are_right, [5, 1, 2])):
             self.assertIs(type(function(*args)), bool)
 
 

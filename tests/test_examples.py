@@ -78,6 +78,52 @@ RING_OF_THREE = """
     (((2, 1), (1, 1), (2, 1)), ((1, 0), (1, 1), (2, 1)))
 """
 
+AUDITS_AND_WALKS = """
+    >>> from houseslessties.audits import audit_holds, audit_paper, audit_state
+    >>> from houseslessties.machines import Machine
+    >>> from houseslessties.nets import standing_after
+    >>> from houseslessties.walks import careful_walk, crossed_counts, crossings, cut_run, unread_acts, walked_counts
+    >>> from houseslessties.walks import walked_standing, walked_state
+    >>> from houseslessties.webs import Web
+    >>> week = Machine([(1, 2, 3, 4, 5, 6, 0), (3, 4, 5, 6, 0, 1, 2)])
+    >>> ring = Web(3, [(0, 1), (1, 2), (2, 0)])
+    >>> states, archives = standing_after(week, ring, 0, (("do", 0, 0), ("meet", 0), ("do", 2, 1), ("meet", 1), ("meet", 2)))
+    >>> states, archives, audit_state(week, ring, 0, states, archives, 1), audit_paper(week, ring, 0, 0)
+    ((5, 4, 5), (1, 4, 5), 4, None)
+    >>> audit_holds(week, ring, 0, 0, None, (0, 1), ("runs", (("do", 2, 0), ("meet", 2)), (("do", 2, 0), ("do", 0, 0))))
+    True
+    >>> few, pair, meets = Machine([(1, 2, 2)]), Web(2, [(0, 1), (0, 1)]), (("meet", 0), ("meet", 1), ("meet", 0))
+    >>> audit_holds(few, pair, 0, 0, None, None, ("runs", (("do", 0, 0),) + meets, (("do", 0, 0), ("do", 0, 0)) + meets))
+    True
+    >>> audit_paper(few, pair, 0, 0)[0], audit_paper(few, pair, 0, 0, (0,))[0], audit_paper(few, Web(2, [(0, 1)]), 0, 1)
+    ('runs', 'runs', None)
+    >>> line = Web(3, [(0, 1), (1, 2)])
+    >>> walk = (("do", 0, 0), ("read", 0), ("do", 1, 1), ("meet", 0), ("do", 0, 1), ("read", 2), ("read", 1))
+    >>> walked_counts(line, walk), unread_acts(line, walk), crossings(line, walk), crossed_counts(line, walk)
+    ((1, 0, 0), (0, 1), (3,), (0, 1, 0))
+    >>> careful = careful_walk(line, walk)
+    >>> careful
+    (('do', 0, 0), ('read', 0), ('do', 1, 1), ('read', 1), ('meet', 0), ('do', 0, 1), ('read', 2))
+    >>> cut_run(line, careful), walked_standing(week, line, 0, careful), walked_state(week, line, 0, walk)
+    ((('do', 0, 0), ('do', 1, 1)), ((1, 3, 0), (0, 0)), 1)
+"""
+
+COUNTERS_AND_RESTS = """
+    >>> from houseslessties.counters import CounterNet
+    >>> from houseslessties.rests import are_right, fewest_rounds, is_rest, longest_way, rest_after, rest_values, turns_heard
+    >>> from houseslessties.webs import Web
+    >>> web = Web(3, [(0, 1), (1, 2)])
+    >>> net = CounterNet(web, 0, [5, 0, 2], [1, -3])
+    >>> net.book(0), net.meet(1), net.meet(0), net.meet(1), net.states, net.archives, is_rest(net)
+    (9, 5, 9, 9, (9, 9, 9), (9, 9), True)
+    >>> rest_values(0, 0, 9), rest_values(0, 2, 6), rest_values(6, 3, 2), rest_values(5, 1, 0), rest_values(5, 1, 2)
+    ((9, 0), (-6, 0), (2, 3), (0, 1), None)
+    >>> are_right(6, 3, 2), are_right(3, 3, 2), rest_after(web, (0, 1)), turns_heard(web, (0, 1), 2, 0)
+    (False, True, 3, 3)
+    >>> longest_way(web), fewest_rounds(web)
+    (2, 2)
+"""
+
 
 class ExamplesTest(unittest.TestCase):
     def check(self, text):
@@ -99,6 +145,12 @@ class ExamplesTest(unittest.TestCase):
     def test_nets_and_books(self):
         self.check(NETS_AND_BOOKS)
         self.check(RING_OF_THREE)
+
+    def test_audits_and_walks(self):
+        self.check(AUDITS_AND_WALKS)
+
+    def test_counters_and_rests(self):
+        self.check(COUNTERS_AND_RESTS)
 
     def test_readme(self):
         readme = pathlib.Path(__file__).resolve().parent.parent / "README.md"

@@ -53,12 +53,29 @@ INTERFACE = {
         "twice_run": "web", "wrong_run": "machine web first", "harmless_period": "machine first",
         "run_harm": "web steps",
     },
+    "audits": {
+        "audit_paper": "machine web first house houses=None ties=None",
+        "audit_holds": "machine web first house houses ties value",
+        "audit_state": "machine web first states archives house",
+    },
+    "walks": {
+        "check_walk": "web value", "crossings": "web walk", "unread_acts": "web walk", "walked_counts": "web walk",
+        "crossed_counts": "web walk", "careful_walk": "web walk", "cut_run": "web walk",
+        "walked_standing": "machine web first walk", "walked_state": "machine web first walk",
+    },
+    "counters": {"CounterNet": "web modulus states archives"},
+    "rests": {
+        "is_rest": "net", "rest_values": "modulus rings total", "are_right": "modulus rings total", "sweep": "web house",
+        "check_turns": "web value", "rest_after": "web turns", "turns_heard": "web turns house other",
+        "longest_way": "web", "fewest_rounds": "web", "best_turns": "web",
+    },
 }
 METHODS = {
     ("machines", "Machine"): {"__eq__": "other"},
     ("webs", "Web"): {"__eq__": "other"},
     ("travellers", "Traveller"): {"do": "deed", "brought": ""},
     ("nets", "Net"): {"do": "house deed", "meet": "tie"},
+    ("counters", "CounterNet"): {"do": "house amount", "meet": "tie", "book": "house"},
 }
 
 

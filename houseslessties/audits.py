@@ -54,8 +54,9 @@ def audit_paper(machine, web, first, house, houses=None, ties=None):
     unknown = [tie for tie in ties_in(web, part) if tie not in known]
     if unknown and doubled is not None:
         return runs_over(web, unknown[0], doubled)
+    # A lone deed is a doubled and a moving one: so where there is one, all is looked at here.
     lone = lone_deeds(machine, first)
-    if unseen or unknown or not lone or rings_of(web, part) == 0:
+    if not lone or rings_of(web, part) == 0:
         return None
     return runs_around(machine, web, first, part, lone[0])
 
@@ -122,7 +123,7 @@ def audit_state(machine, web, first, states, archives, house):
     truth = first
     for one in part:
         truth = moved(machine, truth, rows[(states[one],)])
-    # A deed is done as often as it is harmless if each tie's are done once less than a period: that undoes them.
+    # Behind these each act is done once and some whole periods more, which leads where once does.
     for tie in ties_in(web, part):
         truth = led_times(machine, truth, rows[(archives[tie],)], period - 1)
     return truth

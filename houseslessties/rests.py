@@ -126,16 +126,17 @@ def rest_after(web, turns):
     return meetings
 
 
-def longest_in(web, house):
-    """(house, ways from there) of a longest way in the part of a house, ways by house, the nearest ones ahead."""
+def ways_from_end(web, house):
+    """By house the way from an end of a longest way in the part of a house, the nearest houses ahead."""
+    # What lies farthest from any house of a part without rings is an end of a longest way.
     end = list(first_ways(web, house, None))[-1]
-    return end, first_ways(web, end, None)
+    return first_ways(web, end, None)
 
 
 def longest_way(web):
     """How many ties the longest of all ways between two houses has."""
     need_forest(web)
-    return max([len(way) for part in parts_of(web) for way in longest_in(web, part[0])[1].values()])
+    return max([len(way) for part in parts_of(web) for way in ways_from_end(web, part[0]).values()])
 
 
 def fewest_rounds(web):
@@ -151,7 +152,7 @@ def ties_off(web, house, barred):
 
 def odd_ties(web, part):
     """The ties of a part that lie an odd number of ties away from the middle of its longest way."""
-    end, ways = longest_in(web, part[0])
+    ways = ways_from_end(web, part[0])
     way = list(ways.values())[-1]
     middle = len(way) // 2
     house = [other for other, ties in ways.items() if ties == way[:middle]][0]

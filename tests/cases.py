@@ -4,7 +4,10 @@ import copy
 import itertools
 import random
 
+from houseslessties.counters import CounterNet
 from houseslessties.machines import Machine
+from houseslessties.nets import Net
+from houseslessties.travellers import Traveller
 from houseslessties.webs import Web
 
 
@@ -21,6 +24,7 @@ def any_values():
         True, False, None, -1, -2, 13, 10 ** 6, 10 ** 5000, -10 ** 5000,
         "", "0", "1", "untold", "states 1", "abc",
         Machine([(0,)]), Machine([(1, 0), (0, 0)]), Web(1, []), Web(3, [(0, 1), (2, 0)]),
+        Net(Machine([(1, 0)]), Web(2, [(0, 1)]), 0), Traveller(Machine([(1, 0)]), 0), CounterNet(Web(1, []), 0, [0], []),
         [True], (False,), [None], (None, None), ["0"], ("01",), [[5]], ((2,), (1,)), [(), []],
         [-1], (0, -1), [0, True], (0, 0, None), [Machine([(0,)])], (Machine([(0,)]), 0),
         nested(39), nested(40, 0), [nested(38), nested(38, None)],

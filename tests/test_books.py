@@ -1,6 +1,5 @@
 """[1], [2], [3], [23], [24], [25], [26], [27]: acts and counts, states by counts, right runs, wrong runs, harm."""
 
-import itertools
 import math
 import random
 import unittest
@@ -388,7 +387,7 @@ class HarmTest(unittest.TestCase):
 
     def test_harm_of_runs(self):
         kinds = {}
-        for web, steps in runs(14, WEBS, 30):
+        for web, steps in runs(14, WEBS, 30) + runs(17, [THREE, TWICE] * 5, 60, 8):
             told = run_harm(web, steps)
             deeds = [deed for _, deed in acts_of(steps)]
             sums = [sum(one[house] - 1 for act, (one, _) in enumerate(counts_by_act(web, steps))
@@ -400,6 +399,7 @@ class HarmTest(unittest.TestCase):
         self.assertEqual(set(kinds), {0, 1, 2})
         self.assertEqual(run_harm(web=THREE, steps=STEPS), 1)
         self.assertEqual(run_harm(THREE, ()), 0)
+        self.assertEqual(run_harm(TWICE, [("do", 0, deed) for deed in range(8)] + [("meet", 0), ("meet", 1)]), 1)
         self.assertEqual(run_harm(TWICE, [("do", 0, 5)] * 4 + [("meet", 0), ("meet", 1)]), 4)
         self.assertEqual(run_harm(TWICE, [("do", 0, 5), ("do", 0, 6), ("do", 0, 5), ("meet", 0), ("meet", 1)]), 1)
 

@@ -41,7 +41,7 @@ class CounterNetTest(unittest.TestCase):
         for value in any_values() + [1, 10 ** 6 + 1, -2, [], "2", 10 ** 18]:
             if type(value) is int and value in (13, 10 ** 6):
                 continue
-            self.assertIs(self.refused(LINE, value, value, value), value)
+            self.assertIs(self.refused(LINE, value, (0, 0, 0), (0, 0)), value)
 
     def test_numbers_of_houses_and_ties(self):
         for modulus, least, greatest in ((0, -MOST, MOST), (2, 0, 1), (7, 0, 6), (10 ** 6, 0, 10 ** 6 - 1)):

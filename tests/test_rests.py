@@ -173,10 +173,11 @@ class RestTest(unittest.TestCase):
         for function in (rest_values, are_right):
             for value in any_values() + [1, [], 10 ** 6 + 1, -2]:
                 if not (type(value) is int and value in (13, 10 ** 6)):
-                    self.assertIs(raised(self, Refused, function, value, value, value)["at"], value)
+                    self.assertIs(raised(self, Refused, function, value, 0, 0)["at"], value)
+                    self.assertIs(raised(self, Refused, function, value, "rings", "total")["at"], value)
                 if not (type(value) is int and value >= 0):
-                    self.assertIs(raised(self, Refused, function, 7, value, value)["at"], value)
-                    self.assertIs(raised(self, Refused, function, 0, value, value)["at"], value)
+                    self.assertIs(raised(self, Refused, function, 7, value, "total")["at"], value)
+                    self.assertIs(raised(self, Refused, function, 0, value, 0)["at"], value)
                 if type(value) is not int:
                     self.assertIs(raised(self, Refused, function, 0, 0, value)["at"], value)
                     self.assertIs(raised(self, Refused, function, 7, 1, value)["at"], value)
@@ -241,7 +242,7 @@ class TurnsTest(unittest.TestCase):
 
     def test_no_orders(self):
         wrong = [(0, 1), (0, 1, 1), (0, 0, 0), (0, 1, 3), (0, 1, -1), [0, 1, 2, 0], (0, True, 2), [False, 1, 2], (0, 1, None),
-                 (0, 1, "2"), "012", (0, 1, (2,)), ((0, 1, 2),), (1, 2, 3), 3, {}.get(0), (0, 1, 10 ** 900), [[], 1, 2]]
+                 (0, 1, "2"), "012", (0, 1, (2,)), ((0, 1, 2),), (1, 2, 3), 3, (0, 1, 10 ** 900), [[], 1, 2]]
         for value in wrong + any_values() + [[], ()]:
             self.assertIs(raised(self, Refused, check_turns, THREE, value)["at"], value)
             self.assertIs(raised(self, Refused, turns_heard, THREE, value, None, value)["at"], value)

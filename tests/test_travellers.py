@@ -150,7 +150,7 @@ class MarksTest(unittest.TestCase):
     def test_any_value(self):
         for value in any_values() + [[], (), [0]]:
             self.assertIs(raised(self, NoState, all_marks, SWAP, value, home=value, out=value, most=1)["state"], value)
-            self.assertIs(raised(self, NoState, needed_marks, SWAP, value, value, home=value, most=1)["state"], value)
+            self.assertIs(raised(self, NoState, needed_marks, SWAP, value, None, home=value, most=1)["state"], value)
             self.assertIs(raised(self, NoState, needed_marks, SWAP, 0, value, home=True, out=True)["state"], value)
             self.assertIs(raised(self, NoState, marks_paper, SWAP, value, home=value, out=value, most=1)["state"], value)
             if value is None or type(value) is int and value >= 0:
@@ -326,8 +326,8 @@ class AtWorkTest(unittest.TestCase):
 
     def test_what_nobody_can_have_brought(self):
         wrong = any_values() + [
-            (), (0,), [1], (0, 0, 0), (0, 2), (2, 2), (3, 0), (0, -1), (True, 0), (0, True), (0, False), (False, 0),
-            ("0", 0), (0, "0"), (None, 0), (0, None), ([0], 0), (0, [0]), (0, 10 ** 900), {}.get(0), "00",
+            (), (0,), [1], (0, 0, 0), (0, 0, []), [0, 0, [0]], (0, 2), (2, 2), (3, 0), (0, -1), (True, 0), (0, True), (0, False), (False, 0),
+            ("0", 0), (0, "0"), (None, 0), (0, None), ([0], 0), (0, [0]), (0, 10 ** 900), "00",
         ]
         for value in wrong:
             # (0, 0) and the like are left out: they are brought.

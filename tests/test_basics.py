@@ -4,12 +4,15 @@ import copy
 import inspect
 import unittest
 
+from houseslessties.accidents import house_back, lacking, meeting_broken, tie_lost, tie_opened
 from houseslessties.audits import audit_holds, audit_paper, audit_state
 from houseslessties.books import (
     act_deeds, counts_after, first_twice, harmless_period, heard_after, led_counts, led_times, plain_state, run_harm,
     safe_ties, twice_run, wrong_run,
 )
+from houseslessties.breaks import Twin, doubled_deed, silent_break, silent_holds
 from houseslessties.counters import CounterNet
+from houseslessties.elders import elder_holds, elder_paper, elder_run, order_of, shown_rows, untold_run
 from houseslessties.joins import is_telling, join, joined_all, telling_holds, telling_paper, untold_rows
 from houseslessties.machines import Machine, check_row, led, need_deed, need_state, orbit
 from houseslessties.nets import Net, check_steps, standing_after, truth_of
@@ -40,6 +43,8 @@ FOOT = [["do", 0, 0], ["read", 0], ["do", 1, 1], ["meet", 0], ["do", 0, 1], ["re
 LINE = Web(3, [[0, 1], [1, 2]])
 TREE = Web(12, [(house // 2, house) for house in range(1, 12)])
 RUNS = ["runs", [["do", 2, 0], ["meet", 2]], [["do", 2, 0], ["do", 0, 0]]]
+COUNTERS = CounterNet(LINE, 0, [5, 0, -2], [1, -3])
+WINS = Machine([[1, 1, 2], [2, 1, 2]])
 LATE = LONG[:388] + [["read", house] for house in range(12)]
 CALLS = (
     (Machine, [[1, 0], [0, 0]]), (need_state, MOST_MACHINE, 11), (need_deed, MOST_MACHINE, 7),
@@ -77,11 +82,24 @@ CALLS = (
     (are_right, 10 ** 6, 10 ** 900, 10 ** 900), (sweep, TREE, 7), (check_turns, LINE, [1, 0]), (rest_after, TREE, [*range(11)]),
     (turns_heard, WEB, [*range(20)], 3, 9), (turns_heard, Web(2, []), [], 0, 1), (longest_way, TREE),
     (fewest_rounds, TREE), (best_turns, TREE),
+    (tie_lost, COUNTERS, 1), (tie_opened, COUNTERS, [2, 0], 10 ** 900), (house_back, COUNTERS, 1, -10 ** 900),
+    (meeting_broken, COUNTERS, 1, 0, "new"), (lacking, COUNTERS, 2, 10 ** 900),
+    (Twin, CLOCK, 3), (silent_break, CLOCK, 3), (silent_break, Machine([(1, 2, 2)]), 0),
+    (silent_holds, WEEK, 0, ["silent", 6, [1, 1], [0]]), (silent_holds, WEEK, 0, ["silent", 6, [1], [0]]),
+    (doubled_deed, WEEK, 3), (doubled_deed, Machine([(1, 1)]), 0),
+    (elder_paper, WEB), (elder_paper, Web(3, [[0, 1], [2, 1]])), (elder_paper, TREE), (shown_rows, TREE, RUN[:4]),
+    (elder_run, WEB), (elder_run, Web(3, [[0, 1], [2, 1]])), (elder_run, TREE),
+)
+SEARCHES = (
+    (order_of, WEEK, 0, [0, 1] * 200, 2), (order_of, WEEK, 0, [0, 1], 2),
+    (elder_holds, Web(3, [[0, 1], [2, 1]]), [[[1, 1, 2], [2, 1, 2]], [["do", 0, 0], ["meet", 0]]]),
+    (elder_holds, THREE, [[[1, 2, 0]], [["do", 0, 0], ["meet", 0], ["meet", 1], ["meet", 2]]]),
+    (untold_run, WINS, Web(3, [[0, 1], [2, 1]]), 0), (untold_run, WINS, LINE, 0),
 )
 BY_NAME = (
     (home_states, {"home": 1}), (all_marks, {"home": 1, "out": 2, "most": 6}), (marks_paper, {"home": 1, "out": 2, "most": 6}),
     (needed_marks, {"home": 1, "out": 2, "most": 6}), (enough_home, {"most": 6}), (Traveller, {"most": 6}),
-    (come_home, {"most": 6}), (brought_behind, {"most": 6}),
+    (come_home, {"most": 6}), (brought_behind, {"most": 6}), (house_back, {"tie": 1}), (Twin, {"numbers": 3, "keeps": False}),
 )
 
 
@@ -95,26 +113,33 @@ def spoil(value):
         value.reverse()
 
 
+def names_of(function):
+    """What a call must be passed by name."""
+    return {"most": 20000} if function in [one for one, *_ in SEARCHES] else {}
+
+
 class BasicsTest(unittest.TestCase):
     def test_results(self):
-        for function, *args in CALLS:
+        for function, *args in CALLS + SEARCHES:
             passed = copy.deepcopy(args)
-            result = function(*passed)
+            names = names_of(function)
+            result = function(*passed, **names)
             told = repr_of(result)
             self.assertEqual(repr_of(passed), repr_of(args), function)
             self.assertTrue(is_tupled(result), function)
             for attribute in getattr(result, "__dict__", {}).values():
                 self.assertTrue(is_tupled(attribute), function)
-            self.assertEqual(repr_of(function(*copy.deepcopy(args))), told, function)
+            self.assertEqual(repr_of(function(*copy.deepcopy(args), **names)), told, function)
             spoil([item for item in passed if isinstance(item, list)])
             self.assertEqual(repr_of(result), told, function)
 
     def test_arguments_by_names(self):
-        for function, *args in CALLS:
+        for function, *args in CALLS + SEARCHES:
             names = [one.name for one in inspect.signature(function).parameters.values() if one.kind is not one.KEYWORD_ONLY]
             self.assertEqual(len(names), len(args), function)
-            by_names = function(**dict(reversed(list(zip(names, copy.deepcopy(args))))))
-            self.assertEqual(repr_of(by_names), repr_of(function(*copy.deepcopy(args))), function)
+            more = names_of(function)
+            by_names = function(**more, **dict(reversed(list(zip(names, copy.deepcopy(args))))))
+            self.assertEqual(repr_of(by_names), repr_of(function(*copy.deepcopy(args), **more)), function)
 
     def test_only_by_name(self):
         for function, names in BY_NAME:
@@ -122,16 +147,22 @@ class BasicsTest(unittest.TestCase):
             function(*args, **names)
             with self.assertRaises(TypeError):
                 function(*args, *names.values())
+        for function, *args in SEARCHES:
+            with self.assertRaises(TypeError):
+                function(*args)
+            with self.assertRaises(TypeError):
+                function(*args, 20000)
 
     def test_calls_in_between_change_nothing(self):
-        told = [repr_of(function(*args)) for function, *args in CALLS]
-        again = [repr_of(function(*args)) for function, *args in reversed(CALLS)]
+        calls = CALLS + SEARCHES
+        told = [repr_of(function(*args, **names_of(function))) for function, *args in calls]
+        again = [repr_of(function(*args, **names_of(function))) for function, *args in reversed(calls)]
         self.assertEqual(told, again[::-1])
 
     def test_lists_and_tuples_alike(self):
-        for function, *args in CALLS:
-            tupled = [tuple_of(item) for item in args]
-            self.assertEqual(repr_of(function(*tupled)), repr_of(function(*args)), function)
+        for function, *args in CALLS + SEARCHES:
+            tupled, names = [tuple_of(item) for item in args], names_of(function)
+            self.assertEqual(repr_of(function(*tupled, **names)), repr_of(function(*args, **names)), function)
 
     def test_whether_is_true_or_false(self):
         for function, args in ((is_forest, [WEB]), (is_telling, [TURN, 0]), (is_telling, [RING, 0]),

@@ -124,6 +124,43 @@ COUNTERS_AND_RESTS = """
     (2, 2)
 """
 
+ACCIDENTS_AND_BREAKS = """
+    >>> from houseslessties.accidents import house_back, lacking, meeting_broken, tie_lost, tie_opened
+    >>> from houseslessties.breaks import Twin, doubled_deed, silent_break, silent_holds
+    >>> from houseslessties.counters import CounterNet
+    >>> from houseslessties.machines import Machine
+    >>> from houseslessties.webs import Web
+    >>> net = CounterNet(Web(3, [(0, 1), (1, 2), (2, 0)]), 0, (5, 7, 2), (4, 1, 0))
+    >>> tie_lost(net, 2)[1], tie_lost(net, 0)[0].archives, tie_opened(net, (0, 2), 6)[1]
+    (0, (1, 0), -6)
+    >>> house_back(net, 1, 3, tie=0)[1], house_back(net, 1, 3)[1], house_back(net, 1, 3, tie=0)[0].archives
+    (-3, -4, (3, 1, 0))
+    >>> [meeting_broken(net, 0, 1, word)[1] for word in ("old", "new", "other")], lacking(net, 2, 12)
+    ([1, -3, 0], 3)
+    >>> turn = Machine([(1, 0)])
+    >>> silent_break(turn, 0)[0], silent_holds(turn, 0, ("silent", 1, [0], (0,))), doubled_deed(turn, 0)
+    ('silent', True, (0, 0))
+    >>> twin = Twin(turn, 0)
+    >>> twin.do(0, 0), twin.do(1, 0), twin.meet(whole=False), twin.ahead(), twin.meet(), twin.states, twin.marks
+    (1, 1, 0, 0, 0, (0, 0), (1, 1))
+"""
+
+ELDERS = """
+    >>> from houseslessties.elders import elder_paper, order_of, shown_rows, untold_run
+    >>> from houseslessties.machines import Machine
+    >>> from houseslessties.webs import Web
+    >>> line = Web(3, [(0, 1), (1, 2)])
+    >>> shown_rows(line, (("do", 2, 0), ("do", 0, 1), ("meet", 1), ("meet", 0)))
+    ((1, 0), (1, 0), (0,))
+    >>> elder_paper(line), elder_paper(Web(3, [(0, 1), (2, 1)]))
+    (None, ('elders', 1, 0, 1))
+    >>> wins = Machine([(1, 1, 2), (2, 1, 2)])
+    >>> order_of(wins, 0, (0, 1), 2, most=100), untold_run(wins, line, 0, most=5000)
+    ((1, 0), None)
+    >>> len(untold_run(wins, Web(3, [(0, 1), (2, 1)]), 0, most=5000))
+    5
+"""
+
 
 class ExamplesTest(unittest.TestCase):
     def check(self, text):
@@ -151,6 +188,12 @@ class ExamplesTest(unittest.TestCase):
 
     def test_counters_and_rests(self):
         self.check(COUNTERS_AND_RESTS)
+
+    def test_accidents_and_breaks(self):
+        self.check(ACCIDENTS_AND_BREAKS)
+
+    def test_elders(self):
+        self.check(ELDERS)
 
     def test_readme(self):
         readme = pathlib.Path(__file__).resolve().parent.parent / "README.md"

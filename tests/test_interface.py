@@ -69,6 +69,18 @@ INTERFACE = {
         "check_turns": "web value", "rest_after": "web turns", "turns_heard": "web turns house other",
         "longest_way": "web", "fewest_rounds": "web", "best_turns": "web",
     },
+    "accidents": {
+        "tie_lost": "net tie", "tie_opened": "net pair archive", "house_back": "net house state * tie=None",
+        "meeting_broken": "net tie side archive", "lacking": "net house truth",
+    },
+    "breaks": {
+        "Twin": "machine first * numbers=2 keeps=True", "silent_break": "machine first",
+        "silent_holds": "machine first value", "doubled_deed": "machine first",
+    },
+    "elders": {
+        "elder_paper": "web", "shown_rows": "web steps", "order_of": "machine first deeds state * most",
+        "elder_run": "web", "elder_holds": "web value * most", "untold_run": "machine web first * most",
+    },
 }
 METHODS = {
     ("machines", "Machine"): {"__eq__": "other"},
@@ -76,6 +88,7 @@ METHODS = {
     ("travellers", "Traveller"): {"do": "deed", "brought": ""},
     ("nets", "Net"): {"do": "house deed", "meet": "tie"},
     ("counters", "CounterNet"): {"do": "house amount", "meet": "tie", "book": "house"},
+    ("breaks", "Twin"): {"do": "side deed", "ahead": "", "meet": "* side=0 whole=True"},
 }
 
 

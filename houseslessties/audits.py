@@ -3,7 +3,7 @@
 from houseslessties.books import Counts, harmless_period, led_times, round_ring
 from houseslessties.errors import Refused
 from houseslessties.joins import join
-from houseslessties.kinds import is_sequence, is_whole
+from houseslessties.kinds import is_ascending, is_sequence
 from houseslessties.machines import first_rows, moved
 from houseslessties.nets import DO, MEET, standing_after, steps_fault, truth_of
 from houseslessties.rows import doubled_from, need_commuting, power_of
@@ -12,20 +12,11 @@ from houseslessties.webs import outward, part_of, ring_over, rings_of, ties_in
 RUNS = "runs"
 
 
-def is_lot(value, known):
-    """Whether a value is an ascending sequence of some known numbers."""
-    if not is_sequence(value, 0, len(known)):
-        return False
-    if not all([is_whole(item) and item in known for item in value]):
-        return False
-    return all([one < other for one, other in zip(value, value[1:])])
-
-
 def lot_of(value, known):
     """The numbers that are looked at: those of the value, all that are known for None."""
     if value is None:
         return tuple(known)
-    if not is_lot(value, known):
+    if not is_ascending(value, known):
         raise Refused(value)
     return tuple(value)
 

@@ -29,6 +29,15 @@ def first_not_below(items, limit):
     return None
 
 
+def is_ascending(value, known):
+    """Whether a value is an ascending sequence of some known numbers."""
+    if not is_sequence(value, 0, len(known)):
+        return False
+    if not all([is_whole(item) and item in known for item in value]):
+        return False
+    return all([one < other for one, other in zip(value, value[1:])])
+
+
 def replaced(items, at, item):
     """A tuple with another item at one place."""
     return items[:at] + (item,) + items[at + 1:]

@@ -67,12 +67,21 @@ class Net:
 
     def meet(self, tie):
         """The state of both houses and the tie behind their meeting."""
+        joined = self.joined_over(tie)
+        self.put_joined(tie, joined)
+        return joined
+
+    def joined_over(self, tie):
+        """The join of a tie's archive and the states of its houses."""
         one, other = self.web.ties[need_tie(self.web, tie)]
-        joined = join(self.machine, self.archives[tie], self.states[one], self.states[other])
+        return join(self.machine, self.archives[tie], self.states[one], self.states[other])
+
+    def put_joined(self, tie, joined):
+        """Both houses and the tie have the join now."""
+        one, other = self.web.ties[tie]
         self.states = replaced(replaced(self.states, one, joined), other, joined)
         self.archives = replaced(self.archives, tie, joined)
         self.steps = self.steps + ((MEET, tie),)
-        return joined
 
 
 def take(books, step):

@@ -4,9 +4,13 @@ import copy
 import itertools
 import random
 
+from houseslessties.breaks import Twin
+from houseslessties.cells import CellNet, Loads
 from houseslessties.counters import CounterNet
+from houseslessties.desk import Desk
 from houseslessties.machines import Machine
 from houseslessties.nets import Net
+from houseslessties.store import Store
 from houseslessties.travellers import Traveller
 from houseslessties.webs import Web
 
@@ -25,6 +29,8 @@ def any_values():
         "", "0", "1", "untold", "states 1", "abc",
         Machine([(0,)]), Machine([(1, 0), (0, 0)]), Web(1, []), Web(3, [(0, 1), (2, 0)]),
         Net(Machine([(1, 0)]), Web(2, [(0, 1)]), 0), Traveller(Machine([(1, 0)]), 0), CounterNet(Web(1, []), 0, [0], []),
+        Twin(Machine([(1, 0)]), 0), Store(Machine([(1, 0)]), Web(1, []), 1), Desk(Machine([(0,)]), Web(1, []), 0),
+        Loads(Web(2, [(0, 1)]), 1, [(0,)]), CellNet(Loads(Web(1, []), 2, [])), (Loads(Web(1, []), 1, []),),
         [True], (False,), [None], (None, None), ["0"], ("01",), [[5]], ((2,), (1,)), [(), []],
         [-1], (0, -1), [0, True], (0, 0, None), [Machine([(0,)])], (Machine([(0,)]), 0),
         nested(39), nested(40, 0), [nested(38), nested(38, None)],

@@ -11,7 +11,9 @@ from houseslessties.books import (
     safe_ties, twice_run, wrong_run,
 )
 from houseslessties.breaks import Twin, doubled_deed, silent_break, silent_holds
+from houseslessties.cells import CellNet, Loads, cell_book, cell_web, kept_sums, lots_of, sum_paper, tearing_tie
 from houseslessties.counters import CounterNet
+from houseslessties.desk import Desk
 from houseslessties.elders import elder_holds, elder_paper, elder_run, order_of, shown_rows, untold_run
 from houseslessties.joins import is_telling, join, joined_all, telling_holds, telling_paper, untold_rows
 from houseslessties.machines import Machine, check_row, led, need_deed, need_state, orbit
@@ -20,7 +22,9 @@ from houseslessties.orbits import group_paper, inverse_of, is_exchanging, orbit_
 from houseslessties.rests import (
     are_right, best_turns, check_turns, fewest_rounds, is_rest, longest_way, rest_after, rest_values, sweep, turns_heard,
 )
+from houseslessties.rounds import check_meetings, gone_ways, heard_rounds, pace_of, round_counts, way_counts
 from houseslessties.rows import commuting_paper, need_commuting, power_of
+from houseslessties.store import Store
 from houseslessties.texts import machine_text, read_machine, read_row, read_web, row_text, web_text
 from houseslessties.travellers import (
     Traveller, all_marks, brought_behind, come_home, enough_home, home_states, marks_paper, needed_marks,
@@ -44,6 +48,7 @@ LINE = Web(3, [[0, 1], [1, 2]])
 TREE = Web(12, [(house // 2, house) for house in range(1, 12)])
 RUNS = ["runs", [["do", 2, 0], ["meet", 2]], [["do", 2, 0], ["do", 0, 0]]]
 COUNTERS = CounterNet(LINE, 0, [5, 0, -2], [1, -3])
+LOADS = Loads(LINE, 3, [[0, 1], [1, 2]])
 WINS = Machine([[1, 1, 2], [2, 1, 2]])
 LATE = LONG[:388] + [["read", house] for house in range(12)]
 CALLS = (
@@ -89,17 +94,25 @@ CALLS = (
     (doubled_deed, WEEK, 3), (doubled_deed, Machine([(1, 1)]), 0),
     (elder_paper, WEB), (elder_paper, Web(3, [[0, 1], [2, 1]])), (elder_paper, TREE), (shown_rows, TREE, RUN[:4]),
     (elder_run, WEB), (elder_run, Web(3, [[0, 1], [2, 1]])), (elder_run, TREE),
+    (check_meetings, WEB, [19, 0] * 5000), (way_counts, WEB, 7, [*range(20)] * 20), (round_counts, WEB, 7, [*range(20)] * 2, 400),
+    (heard_rounds, WEB, 7, [*range(20)]), (pace_of, THREE, 2, [0, 1, 2]), (pace_of, WEB, 2, [*range(20)]),
+    (Store, CLOCK, WEB, 3), (Loads, LINE, 3, [[0, 2], [1]]), (cell_web, LOADS, 1), (CellNet, LOADS, 7),
+    (cell_book, CellNet(LOADS), 2, 2), (lots_of, LOADS), (sum_paper, LOADS, [[5, -5, 0], [0, 0, 0]], [1, 1, 1]),
+    (sum_paper, LOADS, [[0, 5, 0]], [1, 0, 1]), (tearing_tie, LOADS, [5, -5, 0]), (tearing_tie, LOADS, [0, 0, 0]),
+    (kept_sums, LOADS, [[1, 0, 2], [0, 0, 0]]), (Desk, WEEK, LINE, 0),
 )
 SEARCHES = (
     (order_of, WEEK, 0, [0, 1] * 200, 2), (order_of, WEEK, 0, [0, 1], 2),
     (elder_holds, Web(3, [[0, 1], [2, 1]]), [[[1, 1, 2], [2, 1, 2]], [["do", 0, 0], ["meet", 0]]]),
     (elder_holds, THREE, [[[1, 2, 0]], [["do", 0, 0], ["meet", 0], ["meet", 1], ["meet", 2]]]),
     (untold_run, WINS, Web(3, [[0, 1], [2, 1]]), 0), (untold_run, WINS, LINE, 0),
+    (gone_ways, THREE, 0, 2, [0, 1, 2] * 100), (gone_ways, WEB, 0, 11, [*range(20)]),
 )
 BY_NAME = (
     (home_states, {"home": 1}), (all_marks, {"home": 1, "out": 2, "most": 6}), (marks_paper, {"home": 1, "out": 2, "most": 6}),
     (needed_marks, {"home": 1, "out": 2, "most": 6}), (enough_home, {"most": 6}), (Traveller, {"most": 6}),
     (come_home, {"most": 6}), (brought_behind, {"most": 6}), (house_back, {"tie": 1}), (Twin, {"numbers": 3, "keeps": False}),
+    (round_counts, {"modulus": 7}), (sum_paper, {"modulus": 5}),
 )
 
 

@@ -161,6 +161,44 @@ ELDERS = """
     5
 """
 
+WAYS_AND_ROUNDS = """
+    >>> from houseslessties.rounds import gone_ways, heard_rounds, pace_of, round_counts, way_counts
+    >>> from houseslessties.webs import Web
+    >>> three = Web(3, [(0, 1), (1, 2), (2, 0)])
+    >>> way_counts(three, 0, (0, 1, 2)), gone_ways(three, 0, 2, (0, 1, 2), most=9)
+    (((2, 1, 2), (1, 1, 2)), ((0, 1), (2,)))
+    >>> round_counts(three, 0, (0, 1, 2), 4), pace_of(three, 0, (0, 1, 2)), round_counts(three, 0, (0, 1, 2), 10 ** 18, modulus=10)
+    (((6, 6, 6), (5, 6, 6)), (1, 2, (3, 3, 3)), ((0, 0, 0), (9, 0, 0)))
+    >>> heard_rounds(Web(4, [(1, 2), (0, 1)]), 0, (0, 1)), pace_of(Web(2, [(0, 1)]), 0, (0,))
+    ((0, 1, 2, None), (1, 1, (0, 0)))
+"""
+
+STORE_CELLS_AND_DESK = """
+    >>> from houseslessties.cells import CellNet, Loads, cell_book, kept_sums, lots_of, sum_paper, tearing_tie
+    >>> from houseslessties.desk import Desk
+    >>> from houseslessties.machines import Machine
+    >>> from houseslessties.store import Store
+    >>> from houseslessties.webs import Web
+    >>> store = Store(Machine([(1, 2, 3, 4, 5, 0)]), Web(3, [(0, 1), (1, 2)]), 0)
+    >>> store.do(0, 0), store.read(0), store.do(0, 0), store.do(2, 0), store.meet(0), store.copies
+    (1, 1, 2, 1, 2, (1, 0, None))
+    >>> store.meet(1), store.copies, store.backup, store.caught
+    (3, (None, None, None), ((1, 0, 1), (0, 0)), (('do', 0, 0), ('do', 2, 0)))
+    >>> store.put_back(), store.states, store.meet(1), store.meet(0)
+    (None, (1, 0, 1), 1, 2)
+    >>> loads = Loads(Web(3, [(0, 1), (1, 2)]), 3, [(0, 1), (1, 2)])
+    >>> net = CellNet(loads)
+    >>> net.do(0, (5, -5, 0)), net.meet(0), net.meet(1), net.states, cell_book(net, 2, 1)
+    ((5, -5, 0), (5, -5), (-5, 0), ((5, -5, 0), (5, -5, 0), (0, -5, 0)), -5)
+    >>> lots_of(loads), sum_paper(loads, [(5, -5, 0)], (1, 1, 1)), tearing_tie(loads, (5, -5, 0))
+    (((0, 1), (0, 1, 2), (1,), (1, 2)), ('sum', (1,), 0), 1)
+    >>> kept_sums(loads, [(5, -5, 0)]), kept_sums(loads, [(1, 0, 2)])
+    (((0, 0, 1),), ((0, 1, 0),))
+    >>> desk = Desk(Machine([(1, 0)]), Web(2, [(0, 1)]), 0)
+    >>> [desk.say(line) for line in ("do 0 0", "read 1", "meet 0", "backup", "caught", "states", "back", "states", "do 2 0")]
+    ['1', '0', '1', '1 0, 0', '1', '1 1', 'ok', '1 0', 'refused']
+"""
+
 
 class ExamplesTest(unittest.TestCase):
     def check(self, text):
@@ -194,6 +232,12 @@ class ExamplesTest(unittest.TestCase):
 
     def test_elders(self):
         self.check(ELDERS)
+
+    def test_ways_and_rounds(self):
+        self.check(WAYS_AND_ROUNDS)
+
+    def test_store_cells_and_desk(self):
+        self.check(STORE_CELLS_AND_DESK)
 
     def test_readme(self):
         readme = pathlib.Path(__file__).resolve().parent.parent / "README.md"

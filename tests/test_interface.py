@@ -81,6 +81,18 @@ INTERFACE = {
         "elder_paper": "web", "shown_rows": "web steps", "order_of": "machine first deeds state * most",
         "elder_run": "web", "elder_holds": "web value * most", "untold_run": "machine web first * most",
     },
+    "rounds": {
+        "check_meetings": "web value", "way_counts": "web house meetings",
+        "gone_ways": "web house there meetings * most", "round_counts": "web house order rounds * modulus=0",
+        "heard_rounds": "web house order", "pace_of": "web house order",
+    },
+    "store": {"Store": "machine web first"},
+    "cells": {
+        "Loads": "web cells carried", "cell_web": "loads cell", "CellNet": "loads modulus=0",
+        "cell_book": "net house cell", "lots_of": "loads", "sum_paper": "loads changes weights * modulus=0",
+        "tearing_tie": "loads amounts", "kept_sums": "loads changes",
+    },
+    "desk": {"Desk": "machine web first"},
 }
 METHODS = {
     ("machines", "Machine"): {"__eq__": "other"},
@@ -89,6 +101,10 @@ METHODS = {
     ("nets", "Net"): {"do": "house deed", "meet": "tie"},
     ("counters", "CounterNet"): {"do": "house amount", "meet": "tie", "book": "house"},
     ("breaks", "Twin"): {"do": "side deed", "ahead": "", "meet": "* side=0 whole=True"},
+    ("store", "Store"): {"do": "house deed", "meet": "tie", "read": "house", "put_back": ""},
+    ("cells", "Loads"): {"__eq__": "other"},
+    ("cells", "CellNet"): {"do": "house amounts", "meet": "tie"},
+    ("desk", "Desk"): {"say": "line"},
 }
 
 

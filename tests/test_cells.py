@@ -87,7 +87,7 @@ class LoadsTest(unittest.TestCase):
 
     def test_cells_that_are_none(self):
         for value in no_numbers() + [0, 9]:
-            self.assertIs(self.refused(LINE, value, value), value)
+            self.assertIs(self.refused(LINE, value, "carried"), value)
 
     def test_what_is_carried_bent_at_each_item(self):
         for value in any_values() + [(), [()], ((), (), ()), "01", {0: (), 1: ()}]:

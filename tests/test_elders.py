@@ -12,7 +12,7 @@ from houseslessties.machines import Machine
 from houseslessties.nets import Net
 from houseslessties.webs import Web, is_forest, ring_paper
 from tests.cases import (
-    CLOCK, FEW, FIVE, FLAGS, LINE, MIXED, MOST_WEB, RING, SWAP, THREE, TURN, TWICE, WEEK, all_rows, all_steps,
+    CLOCK, FEW, FIVE, FLAGS, LINE, MIXED, MOST_WEB, RING, SWAP, THREE, TURN, TWICE, WEEK, all_steps,
     any_values, bent_steps, done, is_tupled, machines_of, nested, no_numbers, raised, repr_of, some_machines, some_steps,
     some_webs,
 )

@@ -8,7 +8,7 @@ from houseslessties.errors import BadSteps, NoHouse, Refused, TooGreat
 from houseslessties.rounds import check_meetings, gone_ways, heard_rounds, pace_of, round_counts, way_counts
 from houseslessties.webs import Web
 from tests.cases import (
-    FIVE, LINE, MOST_WEB, THREE, TWICE, any_values, is_tupled, joined_to, no_numbers, raised, repr_of, some_webs,
+    FIVE, LINE, MOST_WEB, THREE, TWICE, is_tupled, joined_to, no_numbers, raised, repr_of, some_webs,
 )
 
 WEBS = some_webs(40, 21) + [THREE, TWICE, FIVE, LINE, Web(1, []), Web(2, [(1, 0)]), Web(3, [(0, 1), (0, 1), (2, 1)])]
@@ -80,7 +80,7 @@ class MeetingsTest(unittest.TestCase):
     def test_which_error_comes_first(self):
         for value in no_numbers() + [3]:
             self.assertIs(raised(self, NoHouse, way_counts, THREE, value, value)["house"], value)
-            self.assertIs(raised(self, NoHouse, gone_ways, THREE, value, value, value, most=1)["house"], value)
+            self.assertIs(raised(self, NoHouse, gone_ways, THREE, value, "there", value, most=1)["house"], value)
             self.assertIs(raised(self, NoHouse, gone_ways, THREE, 0, value, value, most=1)["house"], value)
             self.assertIs(raised(self, NoHouse, round_counts, THREE, value, value, value, modulus=value)["house"], value)
             self.assertIs(raised(self, NoHouse, heard_rounds, THREE, value, value)["house"], value)
@@ -191,7 +191,8 @@ class RoundsTest(unittest.TestCase):
         for value in no_numbers() + [10 ** 18 + 1]:
             if type(value) is int and 0 <= value <= 10 ** 18:
                 continue
-            self.assertIs(raised(self, Refused, round_counts, THREE, 0, [0], value, modulus=value)["at"], value)
+            self.assertIs(raised(self, Refused, round_counts, THREE, 0, [0], value, modulus="modulus")["at"], value)
+            self.assertIs(raised(self, Refused, round_counts, THREE, 0, [0], value, modulus=7)["at"], value)
         for value in no_numbers() + [10 ** 6 + 1]:
             if type(value) is int and 0 <= value <= 10 ** 6:
                 continue

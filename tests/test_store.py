@@ -4,7 +4,6 @@ import random
 import unittest
 
 from houseslessties.errors import NoDeed, NoHouse, NoState, NoTie, Refused, Untold
-from houseslessties.machines import Machine
 from houseslessties.nets import Net, standing_after
 from houseslessties.store import Store
 from houseslessties.webs import Web

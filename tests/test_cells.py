@@ -186,7 +186,7 @@ class CellNetTest(unittest.TestCase):
 
     def no_amounts(self):
         """Values that are no amounts of two cells, bent at each item."""
-        wrong = [MOST + 1, -MOST - 1, 10 ** 5000, True, False, None, "1", (1,), [1], 0 * 1j]
+        wrong = [MOST + 1, -MOST - 1, 10 ** 5000, True, False, None, "1", (1,), [1]]
         told = [[value, 0] for value in wrong] + [(0, value) for value in wrong] + [(), [0], (0, 0, 0), "00", 0]
         return told + [value for value in any_values() if value not in ((0, -1), [0, True])] + [[0, True]]
 

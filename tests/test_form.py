@@ -295,6 +295,22 @@ class FormTest(unittest.TestCase):
             self.assertTrue(ready, sorted(left))
             left = {name: left[name] for name in left if name not in ready}
 
+    def test_no_name_is_a_method_and_an_attribute(self):
+        attributes = {
+            node.attr for path in FOLDER.glob("*.py") for node in ast.walk(ast.parse(path.read_text("utf-8")))
+            if isinstance(node, ast.Attribute) and isinstance(node.ctx, ast.Store)
+        }
+        self.assertEqual(attributes & OWN_METHODS, set())
+
+    def test_super_calls_methods_alone(self):
+        for path in FOLDER.glob("*.py"):
+            look = Look(path)
+            for node in ast.walk(look.tree):
+                if is_call(node, {"super"}):
+                    method = look.parents[node]
+                    self.assertTrue(isinstance(method, ast.Attribute) and isinstance(look.parents[method], ast.Call))
+                    self.assertEqual((node.args, node.keywords), ([], []))
+
     def test_a_bent_file_is_seen(self):
         bent = {
             "L7": "def bent(a):\n    return a / 2\n", "L24": "def bent(a):\n    return set(a)\n",

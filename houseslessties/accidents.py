@@ -49,7 +49,7 @@ def tie_opened(net, pair, archive):
     if not is_pair(pair, net.web.houses):
         raise Refused(pair)
     need_whole(archive)
-    web = Web(net.web.houses, net.web.ties + (tuple(pair),))
+    web = Web(net.web.houses, net.web.ties + (pair,))
     return with_change(net, web, net.states, net.archives + (archive,))
 
 

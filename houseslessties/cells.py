@@ -40,18 +40,18 @@ def is_amounts(loads, value):
     return is_sequence(value, loads.cells, loads.cells) and all([is_amount(item) for item in value])
 
 
-def amounts_of(loads, value):
-    """The amounts by cell as a tuple."""
+def need_amounts(loads, value):
+    """The amounts themselves, by cell."""
     if not is_amounts(loads, value):
         raise Refused(value)
-    return tuple(value)
+    return value
 
 
-def changes_of(loads, value):
-    """The changes as tuples."""
+def need_changes(loads, value):
+    """The changes themselves."""
     if not is_sequence(value, 0, MOST_CHANGES) or not all([is_amounts(loads, item) for item in value]):
         raise Refused(value)
-    return [tuple(change) for change in value]
+    return value
 
 
 def need_cell(loads, value):
@@ -73,7 +73,7 @@ class CellNet:
     def do(self, house, amounts):
         """The house's numbers behind the amounts that are added."""
         need_house(self.loads.web, house)
-        added = amounts_of(self.loads, amounts)
+        added = need_amounts(self.loads, amounts)
         sums = [number + amount for number, amount in zip(self.states[house], added)]
         self.states = replaced(self.states, house, tuple([counted_by(self.modulus, number) for number in sums]))
         return self.states[house]
@@ -169,8 +169,8 @@ def altering(lot, changes, weights, modulus):
 
 def sum_paper(loads, changes, weights, *, modulus=0):
     """None if the weighted sum stays 0 at every house in every run; else a way and a change that make it another."""
-    deeds = changes_of(loads, changes)
-    weight = amounts_of(loads, weights)
+    deeds = need_changes(loads, changes)
+    weight = need_amounts(loads, weights)
     need_modulus(modulus)
     if altering(all_cells(loads.cells), deeds, weight, modulus):
         raise Refused(weights)
@@ -183,7 +183,7 @@ def sum_paper(loads, changes, weights, *, modulus=0):
 
 def kept_sums(loads, changes):
     """The reduced form of all weights whose sum no change alters, and of which each lot and change makes 0."""
-    deeds = changes_of(loads, changes)
+    deeds = need_changes(loads, changes)
     cells = all_cells(loads.cells)
     rows = [[change[cell] if cell in lot else 0 for cell in cells] for lot in lots_of(loads) for change in deeds]
     return vanishing(rows, loads.cells)
@@ -191,7 +191,7 @@ def kept_sums(loads, changes):
 
 def tearing_tie(loads, amounts):
     """The first tie that carries some, but not all, of the cells in which the amounts are not 0; None for none."""
-    moved = [cell for cell, amount in enumerate(amounts_of(loads, amounts)) if amount != 0]
+    moved = [cell for cell, amount in enumerate(need_amounts(loads, amounts)) if amount != 0]
     for tie, lot in enumerate(loads.carried):
         if 0 < len([cell for cell in moved if cell in lot]) < len(moved):
             return tie

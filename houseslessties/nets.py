@@ -46,42 +46,55 @@ def any_steps(web, value):
     return steps_of(web, MOST_TABLES, value)
 
 
+# Stores stand, do deeds and meet as nets do: so this is told here of both, and each class adds what is its own.
+def stand_first(net, machine, web, first):
+    """All houses and ties of a net stand in the first state; no steps were done."""
+    net.first = need_state(machine, first)
+    net.machine = machine
+    net.web = web
+    net.states = (first,) * web.houses
+    net.archives = (first,) * len(web.ties)
+    net.steps = ()
+
+
+def done_at(net, house, deed):
+    """The state of a net's house behind its deed."""
+    need_house(net.web, house)
+    table = net.machine.tables[need_deed(net.machine, deed)]
+    net.states = replaced(net.states, house, table[net.states[house]])
+    net.steps = net.steps + ((DO, house, deed),)
+    return net.states[house]
+
+
+def joined_over(net, tie):
+    """The join of a tie's archive and the states of its houses, ahead of their meeting."""
+    one, other = net.web.ties[need_tie(net.web, tie)]
+    return join(net.machine, net.archives[tie], net.states[one], net.states[other])
+
+
+def put_joined(net, tie, joined):
+    """Both houses and the tie of a net have the join behind their meeting."""
+    one, other = net.web.ties[tie]
+    net.states = replaced(replaced(net.states, one, joined), other, joined)
+    net.archives = replaced(net.archives, tie, joined)
+    net.steps = net.steps + ((MEET, tie),)
+
+
 class Net:
     """Houses that do deeds, each to its own copy, and meet over ties."""
 
     def __init__(self, machine, web, first):
-        self.first = need_state(machine, first)
-        self.machine = machine
-        self.web = web
-        self.states = (first,) * web.houses
-        self.archives = (first,) * len(web.ties)
-        self.steps = ()
+        stand_first(self, machine, web, first)
 
     def do(self, house, deed):
         """The house's state behind the deed."""
-        need_house(self.web, house)
-        table = self.machine.tables[need_deed(self.machine, deed)]
-        self.states = replaced(self.states, house, table[self.states[house]])
-        self.steps = self.steps + ((DO, house, deed),)
-        return self.states[house]
+        return done_at(self, house, deed)
 
     def meet(self, tie):
         """The state of both houses and the tie behind their meeting."""
-        joined = self.joined_over(tie)
-        self.put_joined(tie, joined)
+        joined = joined_over(self, tie)
+        put_joined(self, tie, joined)
         return joined
-
-    def joined_over(self, tie):
-        """The join of a tie's archive and the states of its houses."""
-        one, other = self.web.ties[need_tie(self.web, tie)]
-        return join(self.machine, self.archives[tie], self.states[one], self.states[other])
-
-    def put_joined(self, tie, joined):
-        """Both houses and the tie have the join now."""
-        one, other = self.web.ties[tie]
-        self.states = replaced(replaced(self.states, one, joined), other, joined)
-        self.archives = replaced(self.archives, tie, joined)
-        self.steps = self.steps + ((MEET, tie),)
 
 
 def take(books, step):

@@ -26,7 +26,7 @@ def reduced(rows, width):
     for place in range(width):
         pivots = [row for row in left if row[place] != 0]
         if pivots:
-            pivot = divided(pivots[0])
+            pivot = pivots[0]
             left = sorted({cleared(row, pivot, place) for row in left})
             done = [cleared(row, pivot, place) for row in done] + [pivot]
     return tuple(done)

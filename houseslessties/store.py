@@ -2,15 +2,15 @@
 
 from houseslessties.errors import Refused
 from houseslessties.kinds import replaced
-from houseslessties.nets import Net
+from houseslessties.nets import done_at, joined_over, put_joined, stand_first
 from houseslessties.webs import need_house, ways_on
 
 
-class Store(Net):
+class Store:
     """A net with the last whole copy, and the copies of the walk under way."""
 
     def __init__(self, machine, web, first):
-        super().__init__(machine, web, first)
+        stand_first(self, machine, web, first)
         self.backup = None
         self.caught = None
         self.end_walk()
@@ -23,19 +23,19 @@ class Store(Net):
 
     def do(self, house, deed):
         """The house's state behind the deed."""
-        state = super().do(house, deed)
+        state = done_at(self, house, deed)
         self.hold((house,))
         return state
 
     def meet(self, tie):
         """The state of both houses and the tie behind their meeting."""
         # A meeting that is not told must not read a house either: so the join comes first.
-        joined = self.joined_over(tie)
+        joined = joined_over(self, tie)
         ends = self.web.ties[tie]
         unread = [house for house in ends if self.copies[house] is None]
         if len(unread) == 1:
             self.read(unread[0])
-        self.put_joined(tie, joined)
+        put_joined(self, tie, joined)
         self.hold(ends)
         return joined
 

@@ -173,7 +173,8 @@ class TwinTest(unittest.TestCase):
         told = raised(self, Uncommuting, Twin, TURN, 0, numbers=0, keeps=0)
         self.assertEqual(tuple(told.values()), commuting_paper(TURN, 0))
         for value in no_numbers() + [0, 4]:
-            self.assertIs(raised(self, Refused, Twin, WEEK, 0, numbers=value, keeps=value)["at"], value)
+            self.assertIs(raised(self, Refused, Twin, WEEK, 0, numbers=value)["at"], value)
+            self.assertEqual(raised(self, Refused, Twin, WEEK, 0, numbers=4, keeps=value), {"at": 4})
         for value in no_numbers() + [0, 1]:
             if value is not True and value is not False:
                 self.assertIs(raised(self, Refused, Twin, WEEK, 0, numbers=3, keeps=value)["at"], value)

@@ -18,7 +18,7 @@ LIBRARY = {
     "collections": {"defaultdict"},
 }
 BUILTINS = set("""len range enumerate zip min max sum abs sorted reversed int str bool bytes list tuple dict set
-    isinstance ord repr any all divmod pow getattr hasattr setattr iter next map super Exception ValueError TypeError
+    isinstance ord repr any all divmod pow getattr hasattr setattr iter next map Exception ValueError TypeError
     KeyError IndexError LookupError ZeroDivisionError ArithmeticError OverflowError RuntimeError NotImplementedError
     AttributeError StopIteration NotImplemented property staticmethod classmethod""".split())
 METHODS = set("""append clear copy count endswith extend find get index insert isalnum isalpha isdigit islower isspace
@@ -301,15 +301,6 @@ class FormTest(unittest.TestCase):
             if isinstance(node, ast.Attribute) and isinstance(node.ctx, ast.Store)
         }
         self.assertEqual(attributes & OWN_METHODS, set())
-
-    def test_super_calls_methods_alone(self):
-        for path in FOLDER.glob("*.py"):
-            look = Look(path)
-            for node in ast.walk(look.tree):
-                if is_call(node, {"super"}):
-                    method = look.parents[node]
-                    self.assertTrue(isinstance(method, ast.Attribute) and isinstance(look.parents[method], ast.Call))
-                    self.assertEqual((node.args, node.keywords), ([], []))
 
     def test_a_bent_file_is_seen(self):
         bent = {
